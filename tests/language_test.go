@@ -1,0 +1,58 @@
+package tests
+
+import (
+	"bytes"
+	"go/ast"
+	"go/format"
+	"go/parser"
+	"go/token"
+	"os"
+	"path/filepath"
+	"strconv"
+	"strings"
+	"testing"
+)
+
+const allowedImports = " bytes cmp container/heap errors iter maps math math/bits slices sort strconv strings sync sync/atomic unicode unicode/utf8 "
+
+// What a text alone shows of the rules of the language: imports, layout, lines that talk to the compiler, long functions.
+func TestProgramKeepsToTheLanguage(t *testing.T) {
+	files, err := filepath.Glob("../impl/*")
+	if err != nil || len(files) == 0 {
+		t.Fatal(files, err)
+	}
+	for _, path := range files {
+		text, err := os.ReadFile(path)
+		if err != nil {
+			t.Fatal(err)
+		}
+		if laid, err := format.Source(text); err != nil || !bytes.Equal(laid, text) {
+			t.Errorf("%s: not in gofmt's layout: %v", path, err)
+		}
+		if bytes.Contains(text, []byte("//go:")) || bytes.Contains(text, []byte("// +build")) {
+			t.Errorf("%s: a line that talks to the compiler", path)
+		}
+		checkFile(t, path, text)
+	}
+}
+
+func checkFile(t *testing.T, path string, text []byte) {
+	fset := token.NewFileSet()
+	file, err := parser.ParseFile(fset, path, text, 0)
+	if err != nil {
+		t.Fatal(err)
+	}
+	for _, i := range file.Imports {
+		name, _ := strconv.Unquote(i.Path.Value)
+		if !strings.Contains(allowedImports, " "+name+" ") {
+			t.Errorf("%s: imports %s", path, name)
+		}
+	}
+	for _, d := range file.Decls {
+		if f, ok := d.(*ast.FuncDecl); ok {
+			if n := fset.Position(f.End()).Line - fset.Position(f.Pos()).Line + 1; n > 60 {
+				t.Errorf("%s: %s has %d lines", path, f.Name.Name, n)
+			}
+		}
+	}
+}
