@@ -56,3 +56,24 @@ func checkFile(t *testing.T, path string, text []byte) {
 		}
 	}
 }
+
+// The document's chapter 'Ways' asks for edges that are walked by labelled loops.
+func TestSchedulesHaveLabelledLoops(t *testing.T) {
+	file, err := parser.ParseFile(token.NewFileSet(), "../impl/l3_schedule.go", nil, 0)
+	if err != nil {
+		t.Fatal(err)
+	}
+	loops := 0
+	ast.Inspect(file, func(n ast.Node) bool {
+		if l, ok := n.(*ast.LabeledStmt); ok {
+			switch l.Stmt.(type) {
+			case *ast.ForStmt, *ast.RangeStmt:
+				loops++
+			}
+		}
+		return true
+	})
+	if loops == 0 {
+		t.Error("no labelled loop")
+	}
+}
