@@ -77,3 +77,21 @@ func TestSchedulesHaveLabelledLoops(t *testing.T) {
 		t.Error("no labelled loop")
 	}
 }
+
+// The document's chapter 'Ways' asks for asks that are told apart by cases that fall through.
+func TestLocksHaveCasesThatFallThrough(t *testing.T) {
+	file, err := parser.ParseFile(token.NewFileSet(), "../impl/l4_lock.go", nil, 0)
+	if err != nil {
+		t.Fatal(err)
+	}
+	falls := 0
+	ast.Inspect(file, func(n ast.Node) bool {
+		if b, ok := n.(*ast.BranchStmt); ok && b.Tok == token.FALLTHROUGH {
+			falls++
+		}
+		return true
+	})
+	if falls == 0 {
+		t.Error("no case falls through")
+	}
+}
