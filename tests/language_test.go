@@ -95,3 +95,30 @@ func TestLocksHaveCasesThatFallThrough(t *testing.T) {
 		t.Error("no case falls through")
 	}
 }
+
+// The document's chapter 'Ways' asks for faults that wrap one another, asked for by kind and taken apart.
+func TestStoresHaveFaultsThatWrap(t *testing.T) {
+	file, err := parser.ParseFile(token.NewFileSet(), "../impl/l5_occ.go", nil, 0)
+	if err != nil {
+		t.Fatal(err)
+	}
+	found := map[string]int{}
+	ast.Inspect(file, func(n ast.Node) bool {
+		switch x := n.(type) {
+		case *ast.SelectorExpr:
+			if from, ok := x.X.(*ast.Ident); ok && from.Name == "errors" {
+				found[x.Sel.Name]++
+			}
+		case *ast.FuncDecl:
+			if x.Recv != nil {
+				found[x.Name.Name]++
+			}
+		}
+		return true
+	})
+	for _, name := range []string{"Is", "As", "New", "Unwrap", "Error"} {
+		if found[name] == 0 {
+			t.Errorf("no %s: %v", name, found)
+		}
+	}
+}
