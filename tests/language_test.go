@@ -6,6 +6,7 @@ import (
 	"go/format"
 	"go/parser"
 	"go/token"
+	"go/types"
 	"os"
 	"path/filepath"
 	"strconv"
@@ -121,4 +122,67 @@ func TestStoresHaveFaultsThatWrap(t *testing.T) {
 			t.Errorf("no %s: %v", name, found)
 		}
 	}
+}
+
+// The document's chapter 'Ways' asks for entries by an iterator, and for what is compared as structs.
+func TestLogsHaveIteratorsAndStructsThatAreCompared(t *testing.T) {
+	file, err := parser.ParseFile(token.NewFileSet(), "../impl/l6_log.go", nil, 0)
+	if err != nil {
+		t.Fatal(err)
+	}
+	structs := structsOf(file)
+	results := resultsOf(file)
+	ranged, compared := 0, 0
+	ast.Inspect(file, func(n ast.Node) bool {
+		switch x := n.(type) {
+		case *ast.RangeStmt:
+			if strings.HasPrefix(results[calledIn(x.X)], "iter.Seq") {
+				ranged++
+			}
+		case *ast.BinaryExpr:
+			if (x.Op == token.EQL || x.Op == token.NEQ) && structs[results[calledIn(x.X)]] > 0 {
+				compared++
+			}
+		}
+		return true
+	})
+	if ranged == 0 || compared == 0 {
+		t.Error(ranged, compared)
+	}
+}
+
+// structsOf are the names of the struct types of a file, each with the number of its fields.
+func structsOf(file *ast.File) map[string]int {
+	found := map[string]int{}
+	ast.Inspect(file, func(n ast.Node) bool {
+		if x, ok := n.(*ast.TypeSpec); ok {
+			if s, ok := x.Type.(*ast.StructType); ok {
+				found[x.Name.Name] = s.Fields.NumFields()
+			}
+		}
+		return true
+	})
+	return found
+}
+
+// resultsOf are the first results of the functions of a file, as their types are written without what is in brackets.
+func resultsOf(file *ast.File) map[string]string {
+	found := map[string]string{}
+	for _, d := range file.Decls {
+		if f, ok := d.(*ast.FuncDecl); ok && f.Type.Results.NumFields() > 0 {
+			name, _, _ := strings.Cut(types.ExprString(f.Type.Results.List[0].Type), "[")
+			found[f.Name.Name] = name
+		}
+	}
+	return found
+}
+
+// calledIn is the name of the function that an expression calls, if it is such a call.
+func calledIn(x ast.Expr) string {
+	if call, ok := x.(*ast.CallExpr); ok {
+		if name, ok := call.Fun.(*ast.Ident); ok {
+			return name.Name
+		}
+	}
+	return ""
 }
