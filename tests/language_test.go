@@ -151,6 +151,45 @@ func TestLogsHaveIteratorsAndStructsThatAreCompared(t *testing.T) {
 	}
 }
 
+// The document's chapter 'Ways' asks for moves that are undone, as closures: what does one answers how it is undone.
+func TestCallsAreUndoneByClosures(t *testing.T) {
+	file, err := parser.ParseFile(token.NewFileSet(), "../impl/l7_linear.go", nil, 0)
+	if err != nil {
+		t.Fatal(err)
+	}
+	results := resultsOf(file)
+	answered, called := 0, map[string]int{}
+	ast.Inspect(file, func(n ast.Node) bool {
+		switch x := n.(type) {
+		case *ast.ReturnStmt:
+			if len(x.Results) == 1 {
+				if _, ok := x.Results[0].(*ast.FuncLit); ok {
+					answered++
+				}
+			}
+		case *ast.AssignStmt:
+			if call, ok := x.Rhs[0].(*ast.CallExpr); ok {
+				if f, ok := call.Fun.(*ast.SelectorExpr); ok && results[f.Sel.Name] == "func()" {
+					called[types.ExprString(x.Lhs[0])] = 0
+				}
+			}
+		case *ast.CallExpr:
+			if _, ok := called[calledIn(x)]; ok {
+				called[calledIn(x)]++
+			}
+		}
+		return true
+	})
+	if answered == 0 || len(called) == 0 {
+		t.Error(answered, called)
+	}
+	for name, many := range called {
+		if many == 0 {
+			t.Errorf("%s is never called", name)
+		}
+	}
+}
+
 // structsOf are the names of the struct types of a file, each with the number of its fields.
 func structsOf(file *ast.File) map[string]int {
 	found := map[string]int{}
