@@ -190,6 +190,47 @@ func TestCallsAreUndoneByClosures(t *testing.T) {
 	}
 }
 
+// The document's chapter 'Ways' asks for groups as shifts of one word behind a method that is told as a value.
+func TestGroupsAreWordsBehindMethodValues(t *testing.T) {
+	file, err := parser.ParseFile(token.NewFileSet(), "../impl/l8_quorum.go", nil, 0)
+	if err != nil {
+		t.Fatal(err)
+	}
+	shifts := shiftingMethods(file)
+	told := 0
+	ast.Inspect(file, func(n ast.Node) bool {
+		if call, ok := n.(*ast.CallExpr); ok {
+			for _, given := range call.Args {
+				if x, ok := given.(*ast.SelectorExpr); ok && shifts[x.Sel.Name] > 0 {
+					told++
+				}
+			}
+		}
+		return true
+	})
+	if told == 0 {
+		t.Error(shifts)
+	}
+}
+
+// shiftingMethods are the names of the methods of a file in which something is shifted, each with how often.
+func shiftingMethods(file *ast.File) map[string]int {
+	found := map[string]int{}
+	for _, d := range file.Decls {
+		f, ok := d.(*ast.FuncDecl)
+		if !ok || f.Recv == nil {
+			continue
+		}
+		ast.Inspect(f, func(n ast.Node) bool {
+			if x, ok := n.(*ast.BinaryExpr); ok && (x.Op == token.SHL || x.Op == token.SHR) {
+				found[f.Name.Name]++
+			}
+			return true
+		})
+	}
+	return found
+}
+
 // structsOf are the names of the struct types of a file, each with the number of its fields.
 func structsOf(file *ast.File) map[string]int {
 	found := map[string]int{}
