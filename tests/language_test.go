@@ -213,6 +213,65 @@ func TestGroupsAreWordsBehindMethodValues(t *testing.T) {
 	}
 }
 
+// The document's chapter 'Ways' asks for nodes behind an interface that is called, and asserted.
+func TestRegistersHaveNodesBehindAnInterface(t *testing.T) {
+	file, err := parser.ParseFile(token.NewFileSet(), "../impl/l9_register.go", nil, 0)
+	if err != nil {
+		t.Fatal(err)
+	}
+	interfaces := interfacesOf(file)
+	called, asserted := 0, 0
+	for _, d := range file.Decls {
+		f, ok := d.(*ast.FuncDecl)
+		if !ok {
+			continue
+		}
+		given := givenAs(f, interfaces)
+		if f.Name.IsExported() && len(given) > 0 {
+			t.Errorf("%s is given an interface", f.Name.Name)
+		}
+		ast.Inspect(f, func(n ast.Node) bool {
+			switch x := n.(type) {
+			case *ast.SelectorExpr:
+				called += given[types.ExprString(x.X)]
+			case *ast.TypeAssertExpr:
+				asserted += given[types.ExprString(x.X)]
+			}
+			return true
+		})
+	}
+	if called == 0 || asserted == 0 {
+		t.Error(interfaces, called, asserted)
+	}
+}
+
+// interfacesOf are the names of the interfaces of a file, each with the number of its methods.
+func interfacesOf(file *ast.File) map[string]int {
+	found := map[string]int{}
+	ast.Inspect(file, func(n ast.Node) bool {
+		if x, ok := n.(*ast.TypeSpec); ok {
+			if i, ok := x.Type.(*ast.InterfaceType); ok {
+				found[x.Name.Name] = i.Methods.NumFields()
+			}
+		}
+		return true
+	})
+	return found
+}
+
+// givenAs are the names of what a function is given as one of these types.
+func givenAs(f *ast.FuncDecl, wanted map[string]int) map[string]int {
+	found := map[string]int{}
+	for _, field := range f.Type.Params.List {
+		for _, name := range field.Names {
+			if wanted[types.ExprString(field.Type)] > 0 {
+				found[name.Name] = 1
+			}
+		}
+	}
+	return found
+}
+
 // shiftingMethods are the names of the methods of a file in which something is shifted, each with how often.
 func shiftingMethods(file *ast.File) map[string]int {
 	found := map[string]int{}
