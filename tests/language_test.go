@@ -245,6 +245,58 @@ func TestRegistersHaveNodesBehindAnInterface(t *testing.T) {
 	}
 }
 
+// The document's chapter 'Ways' asks for steps as method expressions in a table.
+func TestSynodsHaveStepsAsMethodExpressionsInATable(t *testing.T) {
+	file, err := parser.ParseFile(token.NewFileSet(), "../impl/l10_synod.go", nil, 0)
+	if err != nil {
+		t.Fatal(err)
+	}
+	methods := methodsOf(file)
+	rows := 0
+	ast.Inspect(file, func(n ast.Node) bool {
+		table, ok := n.(*ast.CompositeLit)
+		if !ok {
+			return true
+		}
+		if _, ok := table.Type.(*ast.ArrayType); !ok {
+			return true
+		}
+		for _, row := range table.Elts {
+			found := 0
+			ast.Inspect(row, func(n ast.Node) bool {
+				if x, ok := n.(*ast.SelectorExpr); ok {
+					found += methods[types.ExprString(x)]
+				}
+				return true
+			})
+			if found > 0 {
+				rows++
+			}
+		}
+		return true
+	})
+	if rows < 3 {
+		t.Error(methods, rows)
+	}
+	// functions may not stand at package level, not in a table either
+	for _, d := range file.Decls {
+		if x, ok := d.(*ast.GenDecl); ok && x.Tok == token.VAR {
+			t.Error("a variable at package level")
+		}
+	}
+}
+
+// methodsOf are the methods of a file as expressions: the type, a dot and the name.
+func methodsOf(file *ast.File) map[string]int {
+	found := map[string]int{}
+	for _, d := range file.Decls {
+		if f, ok := d.(*ast.FuncDecl); ok && f.Recv != nil {
+			found[types.ExprString(f.Recv.List[0].Type)+"."+f.Name.Name] = 1
+		}
+	}
+	return found
+}
+
 // interfacesOf are the names of the interfaces of a file, each with the number of its methods.
 func interfacesOf(file *ast.File) map[string]int {
 	found := map[string]int{}
