@@ -286,6 +286,61 @@ func TestSynodsHaveStepsAsMethodExpressionsInATable(t *testing.T) {
 	}
 }
 
+// The document's chapter 'Ways' asks for a node that embeds its clock, whose methods are promoted.
+func TestLeasesHaveNodesThatEmbedTheirClock(t *testing.T) {
+	file, err := parser.ParseFile(token.NewFileSet(), "../impl/l11_lease.go", nil, 0)
+	if err != nil {
+		t.Fatal(err)
+	}
+	methods := methodsOf(file)
+	results := resultsOf(file)
+	embedded := embeddedIn(file)
+	promoted := 0
+	for _, d := range file.Decls {
+		f, ok := d.(*ast.FuncDecl)
+		if !ok {
+			continue
+		}
+		// what a receiver, or the answer of a function, asks for by the name of another type's method
+		ast.Inspect(f, func(n ast.Node) bool {
+			x, ok := n.(*ast.SelectorExpr)
+			if !ok {
+				return true
+			}
+			node := results[calledIn(x.X)]
+			if f.Recv != nil && len(f.Recv.List[0].Names) == 1 && types.ExprString(x.X) == f.Recv.List[0].Names[0].Name {
+				node = types.ExprString(f.Recv.List[0].Type)
+			}
+			clock := embedded[node]
+			promoted += methods[clock+"."+x.Sel.Name] + methods["*"+clock+"."+x.Sel.Name]
+			return true
+		})
+	}
+	if len(embedded) == 0 || promoted == 0 {
+		t.Error(embedded, promoted)
+	}
+}
+
+// embeddedIn are the types that structs of a file embed, by the name of the struct.
+func embeddedIn(file *ast.File) map[string]string {
+	found := map[string]string{}
+	ast.Inspect(file, func(n ast.Node) bool {
+		spec, ok := n.(*ast.TypeSpec)
+		if !ok {
+			return true
+		}
+		if x, ok := spec.Type.(*ast.StructType); ok {
+			for _, field := range x.Fields.List {
+				if len(field.Names) == 0 {
+					found[spec.Name.Name] = types.ExprString(field.Type)
+				}
+			}
+		}
+		return true
+	})
+	return found
+}
+
 // methodsOf are the methods of a file as expressions: the type, a dot and the name.
 func methodsOf(file *ast.File) map[string]int {
 	found := map[string]int{}
