@@ -321,6 +321,59 @@ func TestLeasesHaveNodesThatEmbedTheirClock(t *testing.T) {
 	}
 }
 
+// The document's chapter 'Ways' asks for members that are gone deleted from a map, which is ranged over and told in order.
+func TestFencesHaveMembersInAMap(t *testing.T) {
+	file, err := parser.ParseFile(token.NewFileSet(), "../impl/l12_epoch.go", nil, 0)
+	if err != nil {
+		t.Fatal(err)
+	}
+	fields := mapFieldsOf(file)
+	isMap := func(x ast.Expr) bool {
+		field, ok := x.(*ast.SelectorExpr)
+		return ok && fields[field.Sel.Name] == "Member"
+	}
+	deleted, sorted := 0, 0
+	for _, d := range file.Decls {
+		ranged := 0
+		ast.Inspect(d, func(n ast.Node) bool {
+			switch x := n.(type) {
+			case *ast.RangeStmt:
+				if isMap(x.X) {
+					ranged++
+				}
+			case *ast.CallExpr:
+				if calledIn(x) == "delete" && isMap(x.Args[0]) {
+					deleted++
+				}
+				// what was ranged over ahead of this is sorted by it
+				if strings.HasPrefix(types.ExprString(x.Fun), "slices.Sort") {
+					sorted += ranged
+				}
+			}
+			return true
+		})
+	}
+	if deleted == 0 || sorted == 0 {
+		t.Error(fields, deleted, sorted)
+	}
+}
+
+// mapFieldsOf are the fields of structs of a file that are maps, each with the type of the map's values.
+func mapFieldsOf(file *ast.File) map[string]string {
+	found := map[string]string{}
+	ast.Inspect(file, func(n ast.Node) bool {
+		if x, ok := n.(*ast.Field); ok {
+			if m, ok := x.Type.(*ast.MapType); ok {
+				for _, name := range x.Names {
+					found[name.Name] = types.ExprString(m.Value)
+				}
+			}
+		}
+		return true
+	})
+	return found
+}
+
 // embeddedIn are the types that structs of a file embed, by the name of the struct.
 func embeddedIn(file *ast.File) map[string]string {
 	found := map[string]string{}
