@@ -138,8 +138,8 @@ func goodFenceChanges() []fenceChange {
 		fenceChanges("Running of the last", putRunningOfLast, [][]int{nil, {3}, {6}, {3, 3}, {3, 6}, {3, 4, 5, 6}}...),
 		fenceChanges("so many Running", putManyRunning, 0, 1, 19, 20),
 		fenceChanges("so many Ended", putManyEnded, 0, 1, 199, 200),
-		// they are told in the order in which they ended, and no least or greatest one is named
-		fenceChanges("Ended", putEnded, [][]int{nil, {}, {1}, {6}, {6, 1}, {1, 6, 1}, {3, 3}, {0, 7, -1, 1001, least, greatest}}...),
+		// they are told in the order in which they ended
+		fenceChanges("Ended", putEnded, [][]int{nil, {}, {1}, {6}, {6, 1}, {1, 6, 1}, {3, 3}, {6, 5, 4, 3, 2, 1}}...),
 	)
 }
 
@@ -166,6 +166,8 @@ func badFenceChanges() []fenceChange {
 		fenceChanges("Running of the last", putRunningOfLast, [][]int{{2}, {7}, {1}, {2, 6}, {3, 7}, {4, 3}, {6, 5}, {3, 4, 3}, {3, 5, 4, 6}}...),
 		fenceChanges("so many Running", putManyRunning, 21, 22, 200),
 		fenceChanges("so many Ended", putManyEnded, 201, 202, 1000),
+		// each is an epoch that the fence has had
+		fenceChanges("Ended", putEnded, [][]int{{0}, {7}, {-1}, {least}, {greatest}, {1, 6, 7}, {0, 6, 1}, {0, 7, -1, 1001, least, greatest}}...),
 	)
 }
 
@@ -176,6 +178,11 @@ func goodFenceAgain(f impl.Fence) bool {
 	}
 	if len(f.Members) == 0 || len(f.Members) > 8 || len(f.Ended) > 200 {
 		return false
+	}
+	for _, epoch := range f.Ended {
+		if epoch < 1 || epoch > f.Epoch {
+			return false
+		}
 	}
 	for i, m := range f.Members {
 		if m.Id < 0 || m.Id > 99 || i > 0 && f.Members[i-1].Id >= m.Id {
@@ -286,7 +293,7 @@ func smallFences(see func(f impl.Fence)) {
 	fences := func(greatest int, members ...impl.Member) {
 		for epoch := 0; epoch <= greatest; epoch++ {
 			for durable := -1; durable <= epoch; durable++ {
-				see(impl.Fence{Epoch: epoch, Durable: durable, Members: members, Ended: []int{2, 1}})
+				see(impl.Fence{Epoch: epoch, Durable: durable, Members: members, Ended: []int{epoch, 1}})
 			}
 		}
 	}
