@@ -358,6 +358,67 @@ func TestFencesHaveMembersInAMap(t *testing.T) {
 	}
 }
 
+// The document's chapter 'Ways' asks for ways as channels, taken by select, in one place: what is taken is of the channel's parcels, and nobody waits.
+func TestNetsHaveWaysTakenBySelect(t *testing.T) {
+	file, err := parser.ParseFile(token.NewFileSet(), "../impl/l13_snapshot.go", nil, 0)
+	if err != nil {
+		t.Fatal(err)
+	}
+	channels := map[string]string{}
+	ast.Inspect(file, func(n ast.Node) bool {
+		if named, ok := n.(*ast.TypeSpec); ok {
+			if c, ok := named.Type.(*ast.ChanType); ok {
+				channels[named.Name.Name] = types.ExprString(c.Value)
+			}
+		}
+		return true
+	})
+	places, waits := 0, 0
+	for _, d := range file.Decls {
+		f, ok := d.(*ast.FuncDecl)
+		if !ok || f.Recv == nil || channels[types.ExprString(f.Recv.List[0].Type)] != "Parcel" {
+			continue
+		}
+		on := f.Recv.List[0].Names[0].Name
+		ast.Inspect(f, func(n ast.Node) bool {
+			if s, ok := n.(*ast.SelectStmt); ok {
+				places += takesFrom(s, on)
+				waits += 1 - defaultsOf(s)
+			}
+			return true
+		})
+	}
+	if places != 1 || waits != 0 {
+		t.Error(channels, places, waits)
+	}
+}
+
+// takesFrom counts the cases of a select that take from a channel.
+func takesFrom(s *ast.SelectStmt, channel string) int {
+	many := 0
+	for _, c := range s.Body.List {
+		taken, ok := c.(*ast.CommClause).Comm.(*ast.AssignStmt)
+		if !ok {
+			continue
+		}
+		if x, ok := taken.Rhs[0].(*ast.UnaryExpr); ok && x.Op == token.ARROW && types.ExprString(x.X) == channel {
+			many++
+		}
+	}
+	return many
+}
+
+// defaultsOf counts the cases of a select that wait for nothing: 0 or 1.
+func defaultsOf(s *ast.SelectStmt) int {
+	many := 0
+	for _, c := range s.Body.List {
+		if c.(*ast.CommClause).Comm == nil {
+			many++
+		}
+	}
+	return many
+}
+
 // mapFieldsOf are the fields of structs of a file that are maps, each with the type of the map's values.
 func mapFieldsOf(file *ast.File) map[string]string {
 	found := map[string]string{}
