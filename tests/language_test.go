@@ -393,6 +393,50 @@ func TestNetsHaveWaysTakenBySelect(t *testing.T) {
 	}
 }
 
+// The document's chapter 'Ways' asks for a generic join over a generic type: what counters and bags both are put together by.
+func TestThingsGrowByAGenericJoin(t *testing.T) {
+	file, err := parser.ParseFile(token.NewFileSet(), "../impl/l14_crdt.go", nil, 0)
+	if err != nil {
+		t.Fatal(err)
+	}
+	generic := genericTypesOf(file)
+	joins, called := map[string]int{}, map[string]int{}
+	for _, d := range file.Decls {
+		f, ok := d.(*ast.FuncDecl)
+		if !ok || f.Type.TypeParams == nil {
+			continue
+		}
+		for _, field := range f.Type.Params.List {
+			if name, _, _ := strings.Cut(types.ExprString(field.Type), "["); generic[name] > 0 {
+				joins[f.Name.Name]++
+			}
+		}
+	}
+	ast.Inspect(file, func(n ast.Node) bool {
+		call, ok := n.(*ast.CallExpr)
+		if ok && joins[calledIn(call)] > 0 {
+			// what puts two of one place together tells what is joined
+			called[types.ExprString(call.Args[len(call.Args)-1])]++
+		}
+		return true
+	})
+	if len(generic) == 0 || len(joins) == 0 || len(called) < 2 {
+		t.Error(generic, joins, called)
+	}
+}
+
+// genericTypesOf are the names of the types of a file that have type parameters, each with how many.
+func genericTypesOf(file *ast.File) map[string]int {
+	found := map[string]int{}
+	ast.Inspect(file, func(n ast.Node) bool {
+		if x, ok := n.(*ast.TypeSpec); ok && x.TypeParams != nil {
+			found[x.Name.Name] = x.TypeParams.NumFields()
+		}
+		return true
+	})
+	return found
+}
+
 // takesFrom counts the cases of a select that take from a channel.
 func takesFrom(s *ast.SelectStmt, channel string) int {
 	many := 0
