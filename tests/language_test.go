@@ -425,6 +425,51 @@ func TestThingsGrowByAGenericJoin(t *testing.T) {
 	}
 }
 
+// The document's chapter 'Ways' asks for faults that give up by panic, and are caught: each recover stands in a function literal that is deferred.
+func TestCommitsGiveUpByPanicAndAreCaught(t *testing.T) {
+	file, err := parser.ParseFile(token.NewFileSet(), "../impl/l15_commit.go", nil, 0)
+	if err != nil {
+		t.Fatal(err)
+	}
+	gives := map[string]int{}
+	caught, recovers, asks := 0, 0, 0
+	for _, d := range file.Decls {
+		if f, ok := d.(*ast.FuncDecl); ok && callsOf(f, "panic") > 0 {
+			gives[f.Name.Name] = callsOf(f, "panic")
+		}
+	}
+	ast.Inspect(file, func(n ast.Node) bool {
+		switch x := n.(type) {
+		case *ast.DeferStmt:
+			if literal, ok := x.Call.Fun.(*ast.FuncLit); ok {
+				caught += callsOf(literal, "recover")
+			}
+		case *ast.CallExpr:
+			asks += gives[calledIn(x)]
+			if calledIn(x) == "recover" {
+				recovers++
+			}
+		}
+		return true
+	})
+	// grounds that are asked for give up, one by one
+	if len(gives) == 0 || caught == 0 || recovers != caught || asks < 10 {
+		t.Error(gives, caught, recovers, asks)
+	}
+}
+
+// callsOf counts the calls of a function by its name.
+func callsOf(n ast.Node, name string) int {
+	many := 0
+	ast.Inspect(n, func(n ast.Node) bool {
+		if x, ok := n.(*ast.CallExpr); ok && calledIn(x) == name {
+			many++
+		}
+		return true
+	})
+	return many
+}
+
 // genericTypesOf are the names of the types of a file that have type parameters, each with how many.
 func genericTypesOf(file *ast.File) map[string]int {
 	found := map[string]int{}
