@@ -458,6 +458,30 @@ func TestCommitsGiveUpByPanicAndAreCaught(t *testing.T) {
 	}
 }
 
+// The document's chapter 'Ways' asks for lists cut by a third index, and copied: what is put behind a cut list is always put behind a third index.
+func TestConfigsHaveListsCutByAThirdIndexAndCopied(t *testing.T) {
+	file, err := parser.ParseFile(token.NewFileSet(), "../impl/l16_config.go", nil, 0)
+	if err != nil {
+		t.Fatal(err)
+	}
+	cut, open := 0, 0
+	ast.Inspect(file, func(n ast.Node) bool {
+		call, ok := n.(*ast.CallExpr)
+		if !ok || calledIn(call) != "append" {
+			return true
+		}
+		if x, ok := call.Args[0].(*ast.SliceExpr); ok && x.Slice3 {
+			cut++
+		} else if ok {
+			open++
+		}
+		return true
+	})
+	if copied := callsOf(file, "copy"); cut < 2 || open > 0 || copied < 2 {
+		t.Error(cut, open, copied)
+	}
+}
+
 // callsOf counts the calls of a function by its name.
 func callsOf(n ast.Node, name string) int {
 	many := 0
